@@ -5,6 +5,7 @@ import (
 	"slices"
 
 	"weighbridge/api"
+	"weighbridge/choose"
 	"weighbridge/request"
 	"weighbridge/span"
 )
@@ -43,22 +44,11 @@ func Take(l []api.Req, i int) ([]api.Req, api.Req) {
 // Oldest of those that write, or read; below 0: there is none.
 func Oldest(l []api.Req, write bool) int {
 	fits := func(r api.Req) bool { return r.Write == write }
-	return least(l, fits, func(r api.Req) int { return r.Born })
+	return choose.Least(l, fits, func(r api.Req) int { return r.Born })
 }
 
 // From a place on: the one of those that write, or read, that begins there or first behind it; below 0: there is none.
 func From(l []api.Req, write bool, at int) int {
 	fits := func(r api.Req) bool { return r.Write == write && r.Span.From >= at }
-	return least(l, fits, func(r api.Req) int { return r.Span.From })
-}
-
-// least: which of those that fit has the least rank, the first one of several; -1: none fits.
-func least(l []api.Req, fits func(api.Req) bool, rank func(api.Req) int) int {
-	best := -1
-	for i, r := range l {
-		if fits(r) && (best < 0 || rank(r) < rank(l[best])) {
-			best = i
-		}
-	}
-	return best
+	return choose.Least(l, fits, func(r api.Req) int { return r.Span.From })
 }
